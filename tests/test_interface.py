@@ -1,0 +1,65 @@
+"""The interface: names, arguments, where things are defined, and which methods a class has itself."""
+
+import importlib
+import inspect
+import unittest
+
+FUNCTIONS = {
+    "words": {"is_word": "value", "is_date": "value", "is_integer": "value lowest highest"},
+    "allowances": {"is_allowance": "value"},
+    "lists": {"is_place": "value"},
+    "making": {"most": "parts_list allowances date stock", "lack": "parts_list allowances date stock many",
+               "dealing": "parts_list allowances date stock many", "is_thing": "parts_list allowances date value",
+               "is_dealing": "parts_list allowances date stock many value",
+               "is_lack": "parts_list allowances date stock many value"}}
+CLASSES = {
+    "allowances": {"Allowances": {"__init__": "rows through", "rows": "", "__call__": "plain date", "dates": "",
+                                  "__len__": None, "__contains__": None, "__add__": None, "__or__": None,
+                                  "__eq__": None}},
+    "lists": {"PartsList": {"__init__": "places", "places": "", "words": "", "units": "", "__len__": None,
+                            "__contains__": None, "__getitem__": None, "__add__": None, "__mul__": None,
+                            "__rmul__": None, "__eq__": None, "__iter__": None},
+              "Catalog": {"__init__": "lists", "words": "", "__len__": None, "__contains__": None,
+                          "__getitem__": None, "opened": "word", "__iter__": None}},
+    "stocks": {"Stock": {"__init__": "counts", "__getitem__": None, "__setitem__": None, "parts": "",
+                         "__len__": None, "total": "parts", "copy": "", "__add__": None, "__sub__": None,
+                         "__le__": None, "__eq__": None, "__iter__": None}},
+    "demand": {"Demand": {"__init__": "parts_list allowances date", "__call__": "parts", "parts": "", "table": "",
+                          "__eq__": None, "__le__": None}}}
+
+
+def module_of(name):
+    """A module of the package."""
+    return importlib.import_module("standinparts." + name)
+
+
+class InterfaceTest(unittest.TestCase):
+    def test_functions(self):
+        for name, functions in FUNCTIONS.items():
+            for function, names in functions.items():
+                found = getattr(module_of(name), function)
+                self.assertEqual(found.__module__, "standinparts." + name)
+                self.assertEqual(list(inspect.signature(found).parameters), names.split())
+
+    def test_classes(self):
+        for name, classes in CLASSES.items():
+            for class_name, methods in classes.items():
+                found = getattr(module_of(name), class_name)
+                self.assertEqual(found.__module__, "standinparts." + name)
+                for method, names in methods.items():
+                    self.assertIn(method, vars(found))
+                    if names is not None:
+                        told = list(inspect.signature(vars(found)[method]).parameters)
+                        self.assertEqual(told, ["self", *names.split()])
+
+    def test_properties_and_defaults(self):
+        allowances = module_of("allowances").Allowances
+        self.assertIsInstance(vars(allowances)["through"], property)
+        parameters = inspect.signature(allowances).parameters
+        self.assertEqual([parameters["rows"].default, parameters["through"].default], [(), False])
+        self.assertEqual(parameters["through"].kind, inspect.Parameter.KEYWORD_ONLY)
+        self.assertIsNone(inspect.signature(module_of("stocks").Stock).parameters["counts"].default)
+
+
+if __name__ == "__main__":
+    unittest.main()

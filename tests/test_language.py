@@ -1,0 +1,135 @@
+"""Rules of the language that can be seen in the files of the package: size, imports, signs and names."""
+
+import ast
+import builtins
+import os
+import unittest
+
+FOLDER = os.path.join(os.path.dirname(os.path.dirname(os.path.abspath(__file__))), "standinparts")
+BUILTINS = set(
+    "len range enumerate zip min max sum abs sorted reversed int str bool bytes list tuple dict set frozenset map "
+    "isinstance ord repr any all divmod pow getattr hasattr setattr iter next super property staticmethod classmethod "
+    "Exception ValueError TypeError KeyError IndexError LookupError ZeroDivisionError ArithmeticError OverflowError "
+    "RuntimeError NotImplementedError AttributeError StopIteration NotImplemented object".split())
+METHODS = set(
+    "append clear copy count endswith extend find get index insert isalnum isalpha isdigit islower isspace isupper "
+    "items join keys ljust lower lstrip partition pop remove replace reverse rfind rjust rpartition rsplit rstrip "
+    "setdefault split splitlines startswith strip update upper values zfill bit_length add discard isascii isdecimal "
+    "removeprefix removesuffix rindex".split())
+SPECIAL = set(
+    "init eq repr str len enter exit call iter lt le gt ge ne add sub mul floordiv mod pow and or xor lshift rshift "
+    "radd rsub rmul rfloordiv rmod rand ror rxor rlshift rrshift iadd isub imul ifloordiv imod iand ior ixor neg pos "
+    "invert abs bool contains getitem setitem".split())
+LIBRARY = {"heapq": "heappush heappop heapify heapreplace heappushpop", "math": "gcd lcm isqrt comb perm factorial",
+           "itertools": "product combinations permutations chain accumulate pairwise islice zip_longest",
+           "collections": "defaultdict"}
+BARRED = (ast.Global, ast.AsyncFunctionDef, ast.AsyncFor, ast.AsyncWith, ast.Await, ast.Div, ast.MatMult, ast.Import)
+
+
+def files():
+    """The names of the files of the package."""
+    return sorted(name for name in os.listdir(FOLDER) if name != "__pycache__")
+
+
+def text_of(name):
+    """The text of a file of the package."""
+    with open(os.path.join(FOLDER, name), encoding="utf-8") as file:
+        return file.read()
+
+
+def nodes():
+    """All nodes of all files, with the names of the files."""
+    return [(name, node) for name in files() for node in ast.walk(ast.parse(text_of(name)))]
+
+
+def is_call_of(node, names):
+    """Whether a node is a call of one of the builtins."""
+    return isinstance(node, ast.Call) and isinstance(node.func, ast.Name) and node.func.id in names
+
+
+class LanguageTest(unittest.TestCase):
+    def test_files(self):
+        for name in files():
+            self.assertRegex(name, r"^[a-z_]+\.py$")
+            text = text_of(name)
+            self.assertTrue(all(sign == "\n" or " " <= sign <= "~" for sign in text), name)
+            self.assertLessEqual(len(text.splitlines()), 399, name)
+            self.assertLessEqual(max(len(line) for line in text.splitlines()), 120, name)
+            for word in ("(" + "type)", "Meta", "metaclass="):
+                self.assertNotIn(word, text)
+
+    def test_functions_are_short(self):
+        for name, node in nodes():
+            if isinstance(node, ast.FunctionDef):
+                self.assertLessEqual(node.end_lineno - node.lineno + 1, 40, (name, node.name))
+
+    def test_imports(self):
+        for name, node in nodes():
+            if isinstance(node, ast.ImportFrom):
+                if node.module in LIBRARY:
+                    defined = LIBRARY[node.module].split()
+                else:
+                    self.assertRegex(node.module, r"^standinparts\.[a-z]+$")
+                    defined = [getattr(made, "name", None) or made.targets[0].id
+                               for made in ast.parse(text_of(node.module.split(".")[1] + ".py")).body
+                               if isinstance(made, (ast.FunctionDef, ast.ClassDef, ast.Assign))]
+                for alias in node.names:
+                    self.assertIn(alias.name, defined)
+                    self.assertIsNone(alias.asname)
+
+    def test_no_barred_statements(self):
+        for name, node in nodes():
+            self.assertNotIsInstance(node, BARRED, (name, getattr(node, "lineno", 0)))
+            if isinstance(node, ast.Compare) and any(isinstance(op, (ast.Is, ast.IsNot)) for op in node.ops):
+                self.assertIsInstance(node.comparators[0], ast.Constant, name)
+
+    def test_builtins(self):
+        for name, node in nodes():
+            if isinstance(node, ast.Name) and hasattr(builtins, node.id):
+                self.assertIn(node.id, BUILTINS, name)
+                self.assertIsInstance(node.ctx, ast.Load, name)
+            if isinstance(node, ast.arg):
+                self.assertFalse(hasattr(builtins, node.arg), (name, node.arg))
+
+    def test_methods_and_names(self):
+        own = {node.name for _, node in nodes() if isinstance(node, ast.FunctionDef)}
+        for name, node in nodes():
+            if isinstance(node, ast.Call) and isinstance(node.func, ast.Attribute):
+                self.assertIn(node.func.attr, METHODS | own, name)
+            if isinstance(node, (ast.FunctionDef, ast.ClassDef)) and node.name.startswith("__"):
+                self.assertIn(node.name.strip("_"), SPECIAL, name)
+            if isinstance(node, ast.Attribute):
+                self.assertFalse(node.attr.startswith("__"), name)
+            if isinstance(node, (ast.FunctionDef, ast.ClassDef)):
+                for decorator in node.decorator_list:
+                    self.assertRegex(ast.unparse(decorator), r"^(property|staticmethod|classmethod|[a-z_]+\.setter)$")
+
+    def test_lists_instead_of_generator_expressions(self):
+        # Some classes have an __eq__.
+        for name, node in nodes():
+            if is_call_of(node, ("any", "all", "min", "max", "sum", "sorted")):
+                self.assertNotIsInstance(node.args[0], ast.GeneratorExp, (name, node.lineno))
+
+    def test_what_is_ordered_is_plain(self):
+        # Some classes have an order, so that only numbers and strings, and sets, may be sorted.
+        for name, node in nodes():
+            if is_call_of(node, ("sorted", "min", "max")):
+                given = [part.elt if isinstance(part, ast.ListComp) else part for part in node.args]
+                plain = [part for part in given
+                         if is_call_of(part, ("set", "int", "str", "len", "range")) or isinstance(part, ast.Constant)]
+                keyed = any(word.arg == "key" for word in node.keywords)
+                self.assertTrue(len(plain) > 0 or keyed, (name, node.lineno))
+
+    def test_sets_are_sorted_or_stored_once(self):
+        for name, node in nodes():
+            if isinstance(node, ast.FunctionDef):
+                stored = [part for part in ast.walk(node)
+                          if isinstance(part, ast.Assign) and is_call_of(part.value, ("set",))]
+                within = [part.args[0] for part in ast.walk(node) if is_call_of(part, ("sorted", "len"))]
+                calls = [part for part in ast.walk(node) if is_call_of(part, ("set",))]
+                allowed = [part.value for part in stored] + within
+                self.assertTrue(all(part in allowed for part in calls), (name, node.name))
+
+
+if __name__ == "__main__":
+    unittest.main()
