@@ -19,6 +19,11 @@ def asked_by(parts_list, allowances, date):
     return rows
 
 
+def candidates_of(asked):
+    """The parts that fit somewhere, ascending."""
+    return sorted(set([part for _, candidates, _, _ in asked for part in candidates]))
+
+
 def needs_of(asked):
     """The units that are needed, by the ascending tuple of the parts that they may be.
 
@@ -37,10 +42,10 @@ def needs_of(asked):
 
 def demands_on(parts, needs):
     """The demands on all sets of parts, each at its number: the sum of 1 << k for each parts[k] in it."""
-    demands = [0] * (1 << len(parts))
+    demands = [0 for _ in range(1 << len(parts))]
     for needed, units in needs.items():
         if all([part in parts for part in needed]):
-            number = sum([1 << parts.index(part) for part in needed])
+            number = sum([1 << at for at in range(len(parts)) if parts[at] in needed])
             demands[number] = units
     # What stood at a set alone is added to all sets around it, part by part.
     for k in range(len(parts)):
@@ -72,7 +77,7 @@ class Demand:
         if not is_date(date):
             raise BadDate(date)
         asked = asked_by(parts_list, allowances, date)
-        self._parts = tuple(sorted(set([part for _, candidates, _, _ in asked for part in candidates])))
+        self._parts = tuple(candidates_of(asked))
         if len(self._parts) > MOST_PARTS:
             raise TooMany(MOST_PARTS)
         self._needs = needs_of(asked)

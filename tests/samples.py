@@ -1,6 +1,7 @@
 """Small lists, books and stocks, drawn by a chance that is the same each time."""
 
 from standinparts.allowances import Allowances
+from standinparts.eithers import Eithers
 from standinparts.lists import PartsList
 
 
@@ -34,3 +35,54 @@ def some_counts(chance, parts, highest):
 def wide_book(many):
     """A book that lets so many other parts stand for the part a."""
     return Allowances([("p" + letter, "a", 0, None) for letter in "abcdefghijkl"[:many]])
+
+
+def some_eithers(chance, parts, many, units):
+    """At most so many either-ors behind a list of at most two places, with options of at most two places."""
+    base = some_list(chance, parts, 2, units)
+    entries = []
+    for k in range(chance.randrange(many + 1)):
+        options = []
+        for _ in range(2):
+            rows = some_list(chance, parts, 2, units).places()
+            options.append(PartsList([("klmn"[2 * k + at], *row[1:]) for at, row in enumerate(rows)]))
+        entries.append(("ef"[k], *options))
+    return Eithers(base, entries)
+
+
+def some_menu(chance, allowances, parts, many):
+    """A menu of at most so many allowances beside a book, or None where none was found."""
+    rows = [row for row in some_book(chance, parts, many).rows() if row not in allowances]
+    chance.shuffle(rows)
+    return rows or None
+
+
+def some_events(chance, parts_list, parts, many, days):
+    """Events of a list, at days that grow by at most so many."""
+    events, day = [], chance.randrange(days + 1)
+    for _ in range(many):
+        day += chance.choice([0, 0, chance.randrange(days + 1)])
+        kind = chance.choice(["come", "come", "come", "ask", "ask", "order"])
+        name = {"come": parts, "ask": parts_list.words(), "order": [None]}[kind]
+        events.append((kind, chance.choice(name), day) if kind != "order" else (kind, day))
+    return events
+
+
+def some_rush(chance, parts_list, parts, comings, asks, days):
+    """So many units that come, and behind them asks, and perhaps an order, at days that grow by at most so many."""
+    events, day = [("come", chance.choice(parts), 0) for _ in range(comings)], 0
+    for _ in range(asks):
+        day += chance.choice([0, chance.randrange(days + 1)])
+        events.append(("ask", chance.choice(parts_list.words()), day))
+    return events + [("order", day)] * chance.randrange(2)
+
+
+def some_orders(chance, words, parts):
+    """Orders of some of the parts for some of the words."""
+    return {word: tuple(chance.sample(parts, chance.randrange(len(parts) + 1)))
+            for word in words if chance.random() < 0.7}
+
+
+def without_shares(parts_list):
+    """The list with the same places without shares."""
+    return PartsList([(*row[:3], None) for row in parts_list.places()])

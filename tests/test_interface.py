@@ -11,7 +11,22 @@ FUNCTIONS = {
     "making": {"most": "parts_list allowances date stock", "lack": "parts_list allowances date stock many",
                "dealing": "parts_list allowances date stock many", "is_thing": "parts_list allowances date value",
                "is_dealing": "parts_list allowances date stock many value",
-               "is_lack": "parts_list allowances date stock many value"}}
+               "is_lack": "parts_list allowances date stock many value"},
+    "eithers": {"numbers_for": "eithers allowances date stock many", "most_of": "eithers allowances date stock",
+                "lack_paper": "eithers allowances date stock many",
+                "is_lack_paper": "eithers allowances date stock many value"},
+    "needs": {"uses": "parts_list allowances date stock many", "surely_needed": "parts_list allowances date stock many",
+              "least_stock": "parts_list allowances date stock many part",
+              "told_back": "parts_list allowances date many ahead behind", "stock_behind": "ahead things"},
+    "likeness": {"is_under": "one other", "are_alike": "one other", "greater_set": "one other",
+                 "evidence": "one other", "alike_dates": "one its_allowances other other_allowances",
+                 "first_unlike": "one its_allowances other other_allowances"},
+    "given": {"least_given": "parts_list allowances date stock menu many",
+              "gain_of": "parts_list allowances date stock menu"},
+    "runs": {"is_event": "parts_list value", "played": "parts_list allowances rule events",
+             "running": "parts_list allowances rule events"},
+    "serving": {"could_serve": "parts_list allowances events served",
+                "first_wrong": "parts_list allowances rule events"}}
 CLASSES = {
     "allowances": {"Allowances": {"__init__": "rows through", "rows": "", "__call__": "plain date", "dates": "",
                                   "__len__": None, "__contains__": None, "__add__": None, "__or__": None,
@@ -25,7 +40,13 @@ CLASSES = {
                          "__len__": None, "total": "parts", "copy": "", "__add__": None, "__sub__": None,
                          "__le__": None, "__eq__": None, "__iter__": None}},
     "demand": {"Demand": {"__init__": "parts_list allowances date", "__call__": "parts", "parts": "", "table": "",
-                          "__eq__": None, "__le__": None}}}
+                          "__eq__": None, "__le__": None}},
+    "eithers": {"Eithers": {"__init__": "base eithers", "words": "", "__len__": None, "__eq__": None,
+                            "combinations": "", "list_of": "choice"}},
+    "rules": {"Rule": {"__init__": "kind orders", "order": "word", "words": "", "with_order": "word parts",
+                       "rank": "word part", "__call__": "place one other", "__eq__": None}},
+    "runs": {"Run": {"__init__": "parts_list allowances rule", "do": "event", "units": "", "__len__": None,
+                     "copy": ""}}}
 
 
 def module_of(name):
@@ -59,6 +80,11 @@ class InterfaceTest(unittest.TestCase):
         self.assertEqual([parameters["rows"].default, parameters["through"].default], [(), False])
         self.assertEqual(parameters["through"].kind, inspect.Parameter.KEYWORD_ONLY)
         self.assertIsNone(inspect.signature(module_of("stocks").Stock).parameters["counts"].default)
+        rule = module_of("rules").Rule
+        self.assertIsNone(inspect.signature(rule).parameters["orders"].default)
+        self.assertIsInstance(vars(rule)["plainly"], staticmethod)
+        self.assertEqual(len(inspect.signature(rule.plainly).parameters), 0)
+        self.assertTrue(inspect.isgeneratorfunction(module_of("runs").running))
 
 
 if __name__ == "__main__":

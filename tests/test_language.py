@@ -23,6 +23,7 @@ SPECIAL = set(
 LIBRARY = {"heapq": "heappush heappop heapify heapreplace heappushpop", "math": "gcd lcm isqrt comb perm factorial",
            "itertools": "product combinations permutations chain accumulate pairwise islice zip_longest",
            "collections": "defaultdict"}
+CHANGING = set("append clear extend insert pop remove reverse setdefault sort update add discard".split())
 BARRED = (ast.Global, ast.AsyncFunctionDef, ast.AsyncFor, ast.AsyncWith, ast.Await, ast.Div, ast.MatMult, ast.Import)
 
 
@@ -40,6 +41,53 @@ def text_of(name):
 def nodes():
     """All nodes of all files, with the names of the files."""
     return [(name, node) for name in files() for node in ast.walk(ast.parse(text_of(name)))]
+
+
+def functions():
+    """All functions and methods, as tuples (file, class or None, node)."""
+    found = []
+    for name in files():
+        for node in ast.parse(text_of(name)).body:
+            if isinstance(node, ast.FunctionDef):
+                found.append((name, None, node))
+            if isinstance(node, ast.ClassDef):
+                found.extend((name, node.name, part) for part in node.body if isinstance(part, ast.FunctionDef))
+    return found
+
+
+def run_by_operators():
+    """All operators, properties, __eq__, __len__ and the like, and all that they call, by whatever names."""
+    own = functions()
+    free = ("__init__", "__call__", "__iter__", "__enter__", "__exit__", "__setitem__")
+    found = [row for row in own if row[2].name.startswith("__") and row[2].name not in free
+             or any(is_name(part, ("property",)) for part in row[2].decorator_list)]
+    for _, _, node in found:
+        for call in [part for part in ast.walk(node) if isinstance(part, ast.Call)]:
+            name = call.func.attr if isinstance(call.func, ast.Attribute) else call.func.id
+            found.extend(row for row in own if row not in found and (
+                row[2].name == name or row[1] == name and row[2].name == "__init__"))
+    return found
+
+
+def stored_names():
+    """The names of all attributes that are assigned anywhere."""
+    return {node.attr for _, node in nodes() if isinstance(node, ast.Attribute) and isinstance(node.ctx, ast.Store)}
+
+
+def is_created(value):
+    """Whether what a name is assigned is surely a list, dict or set that was created on the spot."""
+    created = (ast.List, ast.ListComp, ast.Dict, ast.DictComp)
+    return isinstance(value, created) or is_call_of(value, ("list", "dict", "set", "sorted"))
+
+
+def is_stored(node):
+    """Whether a node is a name that is assigned."""
+    return isinstance(node, ast.Name) and isinstance(node.ctx, ast.Store)
+
+
+def is_name(node, names):
+    """Whether a node is one of some names."""
+    return isinstance(node, ast.Name) and node.id in names
 
 
 def is_call_of(node, names):
@@ -103,6 +151,41 @@ class LanguageTest(unittest.TestCase):
             if isinstance(node, (ast.FunctionDef, ast.ClassDef)):
                 for decorator in node.decorator_list:
                     self.assertRegex(ast.unparse(decorator), r"^(property|staticmethod|classmethod|[a-z_]+\.setter)$")
+
+    def test_what_operators_run_calls_nothing_that_is_held_or_passed(self):
+        stored = stored_names()
+        self.assertTrue({"index", "number", "kind"} <= stored)
+        for name, _, node in run_by_operators():
+            locals_ = {part.arg for part in ast.walk(node) if isinstance(part, ast.arg)}
+            locals_ |= {part.id for part in ast.walk(node) if is_stored(part)}
+            for call in [part for part in ast.walk(node) if isinstance(part, ast.Call)]:
+                place = (name, node.name, call.lineno)
+                self.assertIsInstance(call.func, (ast.Name, ast.Attribute), place)
+                if isinstance(call.func, ast.Attribute):
+                    self.assertNotIn(call.func.attr, stored, place)
+                else:
+                    self.assertNotIn(call.func.id, locals_, place)
+
+    def test_what_operators_run_changes_only_what_it_created(self):
+        names = {row[2].name for row in run_by_operators()}
+        self.assertTrue({"__le__", "demands_on", "through", "check_places"} <= names)
+        for name, _, node in run_by_operators():
+            assigned = {}
+            for part in ast.walk(node):
+                if isinstance(part, ast.Assign) and isinstance(part.targets[0], ast.Name):
+                    assigned.setdefault(part.targets[0].id, []).append(part.value)
+            for part in ast.walk(node):
+                changed = None
+                if isinstance(part, ast.Subscript) and not isinstance(part.ctx, ast.Load):
+                    changed = part.value
+                if isinstance(part, ast.Call) and isinstance(part.func, ast.Attribute) and part.func.attr in CHANGING:
+                    changed = part.func.value
+                if isinstance(part, ast.Attribute) and not isinstance(part.ctx, ast.Load):
+                    self.assertEqual((node.name, part.value.id), ("__init__", "self"), (name, part.lineno))
+                if changed is not None:
+                    place = (name, node.name, part.lineno)
+                    self.assertIsInstance(changed, ast.Name, place)
+                    self.assertTrue(all(is_created(value) for value in assigned.get(changed.id, [None])), place)
 
     def test_lists_instead_of_generator_expressions(self):
         # Some classes have an __eq__.

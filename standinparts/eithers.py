@@ -1,0 +1,195 @@
+"""Either-ors: lists of which each made thing has the places of one option or those of the other one."""
+
+from math import comb
+
+from standinparts.demand import MOST_PARTS, asked_by, candidates_of, demands_on, needs_of, numbered_sets
+from standinparts.errors import BadChoice, BadEither, BadNumber, TooMany
+from standinparts.lists import PartsList
+from standinparts.words import is_integer, is_word
+
+MOST_EITHERS = 2
+MOST_MADE = 200
+MOST_ROWS = 5000
+
+
+def is_either(value):
+    """Whether any value is an either-or: (word, first, second)."""
+    if not isinstance(value, tuple) or len(value) != 3:
+        return False
+    word, first, second = value
+    return is_word(word) and isinstance(first, PartsList) and isinstance(second, PartsList)
+
+
+def check_eithers(base, eithers):
+    """Raises the error of the first thing that is wrong about a base and its either-ors."""
+    if not isinstance(base, PartsList) or not isinstance(eithers, (list, tuple)) or len(eithers) > MOST_EITHERS:
+        raise BadEither(None)
+    words = []
+    in_use = base.words()
+    for index, entry in enumerate(eithers):
+        if not is_either(entry) or entry[0] in words:
+            raise BadEither(index)
+        options = entry[1].words() + entry[2].words()
+        if any([word in in_use for word in options]):
+            raise BadEither(index)
+        words.append(entry[0])
+        in_use.extend(options)
+
+
+class Eithers:
+    """A base list with either-ors. It never changes."""
+
+    def __init__(self, base, eithers):
+        check_eithers(base, eithers)
+        self._base = base
+        self._eithers = tuple([(word, first, second) for word, first, second in eithers])
+
+    def words(self):
+        """The words of the either-ors in order."""
+        return [word for word, _, _ in self._eithers]
+
+    def __len__(self):
+        return len(self._eithers)
+
+    def __eq__(self, other):
+        return isinstance(other, Eithers) and self._base == other._base and self._eithers == other._eithers
+
+    def combinations(self):
+        """All choices, ascending."""
+        choices = [()]
+        for _ in self._eithers:
+            choices = [(*choice, option) for choice in choices for option in (0, 1)]
+        return choices
+
+    def list_of(self, choice):
+        """The list of a choice: the base with the chosen options behind it."""
+        if not isinstance(choice, tuple) or len(choice) != len(self._eithers):
+            raise BadChoice(choice)
+        if not all([is_integer(option, 0, 1) for option in choice]):
+            raise BadChoice(choice)
+        chosen = self._base
+        for option, entry in zip(choice, self._eithers):
+            chosen = chosen + entry[1 + option]
+        return chosen
+
+
+def check_number(many):
+    """Raises BadNumber for any value that is no number of things with either-ors."""
+    if not is_integer(many, 0, MOST_MADE):
+        raise BadNumber(many)
+
+
+def asked_sets(eithers, allowances, date):
+    """For all sets of candidates, in their order, (parts, demands): a demand for each choice's list."""
+    lists = [eithers.list_of(choice) for choice in eithers.combinations()]
+    asked = [asked_by(parts_list, allowances, date) for parts_list in lists]
+    parts = candidates_of([place for places in asked for place in places])
+    if len(parts) > MOST_PARTS:
+        raise TooMany(MOST_PARTS)
+    tables = [demands_on(parts, needs_of(places)) for places in asked]
+    return [(chosen, tuple([demands[number] for demands in tables])) for number, chosen in numbered_sets(parts)]
+
+
+def held_sets(sets, stock):
+    """The sets of asked_sets that can be the first one with too few units, as (parts, demands, units).
+
+    Where a set ahead has the same demands and no more units, it has too few units
+    whenever the set behind has.
+    """
+    fewest = {}
+    found = []
+    for parts, demands in sets:
+        units = stock.total(parts)
+        if demands not in fewest or units < fewest[demands]:
+            fewest[demands] = units
+            found.append((parts, demands, units))
+    return found
+
+
+def rows_of(many, length):
+    """All rows of numbers with the sum many, ascending; raises TooMany if they are too many."""
+    if comb(many + length - 1, length - 1) > MOST_ROWS:
+        raise TooMany(MOST_ROWS)
+    rows = [()]
+    for _ in range(length - 1):
+        rows = [(*row, number) for row in rows for number in range(many - sum(row) + 1)]
+    return [(*row, many - sum(row)) for row in rows]
+
+
+def is_short(row, held):
+    """Whether a set of held_sets has fewer units than a row of numbers asks."""
+    _, demands, units = held
+    return units < sum([number * demand for number, demand in zip(row, demands)])
+
+
+def first_short(row, held):
+    """The first of held_sets with fewer units than a row of numbers asks, or None."""
+    for one in held:
+        if is_short(row, one):
+            return one
+    return None
+
+
+def first_row(rows, held):
+    """The first row of numbers for which no set has too few units, or None."""
+    short = None
+    for row in rows:
+        # Rows side by side mostly lack the same parts, so that seldom all sets are looked at.
+        if short is None or not is_short(row, short):
+            short = first_short(row, held)
+            if short is None:
+                return row
+    return None
+
+
+def numbers_for(eithers, allowances, date, stock, many):
+    """The first row of numbers, by choices, by which so many things can be made, or None."""
+    check_number(many)
+    sets = asked_sets(eithers, allowances, date)
+    return first_row(rows_of(many, 1 << len(eithers)), held_sets(sets, stock))
+
+
+def most_of(eithers, allowances, date, stock):
+    """How many things can be made at the most, but 200 for more."""
+    held = held_sets(asked_sets(eithers, allowances, date), stock)
+    for many in range(1, MOST_MADE + 1):
+        if first_row(rows_of(many, 1 << len(eithers)), held) is None:
+            return many - 1
+    return MOST_MADE
+
+
+def lack_paper(eithers, allowances, date, stock, many):
+    """For each row of numbers, ascending, (row, parts) with the first set with too few units, or None."""
+    check_number(many)
+    sets = asked_sets(eithers, allowances, date)
+    rows = rows_of(many, 1 << len(eithers))
+    held = held_sets(sets, stock)
+    if first_row(rows, held) is not None:
+        return None
+    return [(row, first_short(row, held)[0]) for row in rows]
+
+
+def is_row_paper(row, held, value):
+    """Whether any value is a tuple of a row and of a set of candidates with too few units for it.
+
+    held has the tuples of held_sets for all sets, by their parts.
+    """
+    if not isinstance(value, tuple) or len(value) != 2:
+        return False
+    told, parts = value
+    if not isinstance(told, tuple) or not all([is_integer(number, 0, MOST_MADE) for number in told]):
+        return False
+    if told != row or not isinstance(parts, tuple) or not all([is_word(part) for part in parts]):
+        return False
+    return parts in held and is_short(row, held[parts])
+
+
+def is_lack_paper(eithers, allowances, date, stock, many, value):
+    """Whether any value is a paper of lack."""
+    check_number(many)
+    sets = asked_sets(eithers, allowances, date)
+    rows = rows_of(many, 1 << len(eithers))
+    if not isinstance(value, list) or len(value) != len(rows):
+        return False
+    held = {parts: (parts, demands, stock.total(parts)) for parts, demands in sets}
+    return all([is_row_paper(row, held, entry) for row, entry in zip(rows, value)])
