@@ -149,13 +149,78 @@ def numbers_for(eithers, allowances, date, stock, many):
     return first_row(rows_of(many, 1 << len(eithers)), held_sets(sets, stock))
 
 
+def limits_of(held):
+    """What the sets of held_sets allow: tuples (least, demand, first, last, units), the ones that allow least ahead.
+
+    demand is that of the first choice's list, first and last are what it grows by with the second option of the
+    first of two either-ors and of the last one. Demands are sums over places, so that these tell the demands of all
+    choices; and it does not matter in which things second options stand together, only in how many each stands.
+    """
+    fewest = {demands: units for _, demands, units in held}
+    limits = []
+    for demands, units in fewest.items():
+        demand = demands[0]
+        first = demands[2] - demand if len(demands) > 2 else 0
+        last = demands[1] - demand if len(demands) > 1 else 0
+        # So many things can be made at the most, whatever is chosen, if the set is asked for at all.
+        least = units // max(1, min([int(asked) for asked in demands]))
+        limits.append((least, demand, first, last, units))
+    return sorted(set(limits))
+
+
+def is_room(many, seconds, limits):
+    """Whether so many things can be made, so many of them with the second option of the first of two either-ors."""
+    # How many things may have the last either-or's second option, so far as sets were looked at.
+    lowest = 0
+    highest = many
+    for _, demand, first, last, units in limits:
+        left = units - many * demand - seconds * first
+        if last > 0:
+            highest = min(int(left // last), highest)
+        elif last < 0:
+            lowest = max(int(-(left // -last)), lowest)
+        elif left < 0:
+            return False
+        if lowest > highest:
+            return False
+    return True
+
+
+def can_make(many, length, limits):
+    """Whether so many things can be made; length is the number of choices."""
+    for seconds in range(many + 1 if length > 2 else 1):
+        if is_room(many, seconds, limits):
+            return True
+    return False
+
+
+def most_looked_at(length):
+    """The greatest number of things, 200 at the most, that has not too many rows of numbers."""
+    many = MOST_MADE
+    while comb(many + length - 1, length - 1) > MOST_ROWS:
+        many -= 1
+    return many
+
+
 def most_of(eithers, allowances, date, stock):
     """How many things can be made at the most, but 200 for more."""
-    held = held_sets(asked_sets(eithers, allowances, date), stock)
-    for many in range(1, MOST_MADE + 1):
-        if first_row(rows_of(many, 1 << len(eithers)), held) is None:
-            return many - 1
-    return MOST_MADE
+    limits = limits_of(held_sets(asked_sets(eithers, allowances, date), stock))
+    length = 1 << len(eithers)
+    greatest = most_looked_at(length)
+    if can_make(greatest, length, limits):
+        if greatest < MOST_MADE:
+            raise TooMany(MOST_ROWS)
+        return greatest
+    # What can be made can be made with one thing less, too: so the numbers in between are halved.
+    low = 0
+    high = greatest
+    while high - low > 1:
+        many = (low + high) // 2
+        if can_make(many, length, limits):
+            low = many
+        else:
+            high = many
+    return low
 
 
 def lack_paper(eithers, allowances, date, stock, many):

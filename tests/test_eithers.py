@@ -300,6 +300,98 @@ class NumbersTest(unittest.TestCase):
         self.assertLess(time.process_time() - begin, 20)
 
 
+class MostOfTest(unittest.TestCase):
+    """How many can be made at the most, told without looking at each row of numbers by itself."""
+
+    def twice(self, units):
+        """The input that took longest: two either-ors the options of which are one list."""
+        made = Eithers(one("x", "a"), [("e", one("y", "a"), one("y", "a")), ("f", one("z", "a"), one("z", "a"))])
+        return lambda: most_of(made, EMPTY, 0, Stock({"a": units}))
+
+    def check_too_many(self, call):
+        with self.assertRaises(TooMany) as caught:
+            call()
+        self.assertEqual(caught.exception.limit, 5000)
+
+    def by_rows(self, made, book, date, stock):
+        """The same, counted up from 1, with each row of numbers looked at; TooMany's limit if it is raised."""
+        try:
+            for many in range(1, 201):
+                if numbers_for(made, book, date, stock, many) is None:
+                    return many - 1
+        except TooMany as error:
+            return -error.limit
+        return 200
+
+    def told(self, made, book, date, stock):
+        """What most_of tells; TooMany's limit if it is raised."""
+        try:
+            return most_of(made, book, date, stock)
+        except TooMany as error:
+            return -error.limit
+
+    def test_options_that_are_one_list(self):
+        for units, told in [(0, 0), (2, 0), (3, 1), (83, 27), (84, 28), (86, 28)]:
+            self.assertEqual(self.twice(units)(), told)
+        for units in (87, 88, 90, 1000, GREAT):
+            self.check_too_many(self.twice(units))
+        single = Eithers(one("x", "a"), [("e", one("y", "a"), one("y", "a"))])
+        for units, told in [(1, 0), (57, 28), (58, 29), (60, 30), (399, 199), (400, 200), (1000, 200), (GREAT, 200)]:
+            self.assertEqual(most_of(single, EMPTY, 0, Stock({"a": units})), told)
+
+    def test_a_hundred_of_each_within_a_second(self):
+        begin = time.process_time()
+        for _ in range(100):
+            self.assertEqual(self.twice(86)(), 28)
+            self.check_too_many(self.twice(87))
+        self.assertLess(time.process_time() - begin, 1)
+
+    def test_unlike_options_within_a_second(self):
+        book = Allowances([("d", "b", 0, None), ("d", "c", 0, None), ("a", "c", 0, None)])
+        made = Eithers(one("x", "a"), [("e", one("y", "b", 2), one("y", "c", 1, 1)),
+                                       ("f", one("z"), one("z", "c", 3, 1))])
+        stocks = [Stock({"a": 28, "b": 30, "c": 30, "d": 5, "bolt": units}) for units in range(29)]
+        counted = [self.by_rows(made, book, 0, stock) for stock in stocks]
+        self.assertGreater(len(set(counted)), 5)
+        begin = time.process_time()
+        for _ in range(4):
+            self.assertEqual([most_of(made, book, 0, stock) for stock in stocks], counted)
+        self.assertLess(time.process_time() - begin, 1)
+
+    def test_only_second_options_can_be_had(self):
+        made = Eithers(one("x", "a"), [("e", one("y", "b"), one("y", "c")), ("f", one("z", "d"), one("z", "e", 2))])
+        for units, told in [({"b": 9, "e": 40}, 9), ({"c": 9, "d": 40}, 9), ({"c": 9, "e": 17}, 8), ({"b": 9}, 0),
+                            ({"b": 5, "c": 5, "d": 5, "e": 11}, 10), ({"b": 5, "c": 5, "d": 5, "e": 7}, 8)]:
+            self.assertEqual(most_of(made, EMPTY, 0, Stock({"a": 28, **units})), told)
+
+    def test_against_all_rows(self):
+        chance = random.Random(44)
+        found = []
+        for k in range(400):
+            made, book = some_eithers(chance, "abcd", 2, 3), some_book(chance, "abcd", 5)
+            if k % 4 == 0:
+                made = Eithers(one("x", "a"), [("e", one("y", "b", 2), one("y", "c", 1, 1)),
+                                               ("f", one("z", chance.choice("abcd"), 2), one("z", "d", 1, 0))])
+            date = chance.randrange(4)
+            stock = Stock(some_counts(chance, "abcd", chance.choice([12, 40, 60, 150, 900])))
+            told = self.told(made, book, date, stock)
+            self.assertEqual(told, self.by_rows(made, book, date, stock))
+            found.append((len(made), told))
+        self.assertTrue({(0, 200), (1, 200), (2, -5000), (2, 0), (1, 0)} <= set(found))
+        self.assertGreater(len({told for length, told in found if length == 2}), 20)
+
+    def test_against_all_rows_and_sets(self):
+        chance = random.Random(45)
+        for _ in range(60):
+            made, book = some_eithers(chance, "abc", 2, 2), some_book(chance, "abc", 4)
+            counts, many = some_counts(chance, "abc", 14), 0
+            while many < 9 and any(brute.lack_of_row(made, book, 1, counts, row) is None
+                                   for row in brute.rows_of(many + 1, 2 ** len(made))):
+                many += 1
+            told = self.told(made, book, 1, Stock(counts))
+            self.assertTrue(told == many or many == 9 and (told > 9 or told == -5000))
+
+
 class IsLackPaperTest(unittest.TestCase):
     def setUp(self):
         self.book = Allowances([("screw", "nut", 0, None)])
