@@ -61,6 +61,11 @@ class Rule:
         """Whether a place prefers the first of two units to the other one."""
         return self.place_of(place, one) < self.place_of(place, other)
 
+    def preferred_ahead(self, place, parts):
+        """The list of some unlike parts, those ahead that a place prefers where all units came on one day."""
+        places = [(self.place_of(place, (part, 0)), part) for part in parts]
+        return [part for _, part in sorted(set(places))]
+
     def __eq__(self, other):
         return isinstance(other, Rule) and self.kind == other.kind and self._orders == other._orders
 

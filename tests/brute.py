@@ -1,6 +1,6 @@
 """The definitions of the document, done by trying all ways. Slow, and only for small things."""
 
-from itertools import chain, combinations, combinations_with_replacement, product
+from itertools import chain, combinations, combinations_with_replacement, permutations, product
 
 
 def candidates(allowances, plain, date):
@@ -246,3 +246,70 @@ def first_wrong(parts_list, allowances, kind, orders, events):
         elif could_serve(parts_list, allowances, events, served + [index]):
             return index
     return None
+
+
+def dates(allowances):
+    """0, the dates at which an allowance begins, and those behind the last date of one."""
+    begins = {since for _, _, since, _ in allowances.rows()}
+    behind = {till + 1 for _, _, _, till in allowances.rows() if till is not None and till < 9999}
+    return sorted({0} | begins | behind)
+
+
+def uses_from(parts_list, allowances, part, date):
+    """The uses of a part from a date on, as point 15 tells it."""
+    days = [date] + [day for day in dates(allowances) if day > date]
+    return [(word, day) for day in days for word, plain, _, _ in parts_list.places()
+            if part in candidates(allowances, plain, day)]
+
+
+def uses_within(parts_list, allowances, one, other, date):
+    """Whether all uses of a part from a date on are uses of another one."""
+    return set(uses_from(parts_list, allowances, one, date)) <= set(uses_from(parts_list, allowances, other, date))
+
+
+def ever_candidates(parts_list, allowances, word):
+    """The set of all parts that are ever candidates of a place."""
+    return set().union(*[candidates(allowances, parts_list[word][1], date) for date in dates(allowances)])
+
+
+def must_be_ahead(parts_list, allowances, word, part, other, days):
+    """Whether a part must be ahead of another one for a place, as point 16 tells it, at some of the days."""
+    for date in days:
+        fits = candidates(allowances, parts_list[word][1], date)
+        if part in fits and other in fits and not uses_within(parts_list, allowances, other, part, date):
+            return True
+    return False
+
+
+def can_be_preferred(parts_list, kind, orders, word, date, part, other):
+    """Whether at some date a place prefers some unit of a part to some unit of another one that can be there."""
+    plain, order = parts_list[word][1], orders.get(word, ())
+    return any(preference(kind, order, plain, (part, one)) < preference(kind, order, plain, (other, day))
+               for one in {0, date} for day in {0, date})
+
+
+def is_rule_right(parts_list, allowances, kind, orders, days):
+    """Whether, whatever unit is preferred at one of the days, each use of its part is one of the other part."""
+    for word, plain, _, _ in parts_list.places():
+        for date in days:
+            for part, other in permutations(sorted(candidates(allowances, plain, date)), 2):
+                if can_be_preferred(parts_list, kind, orders, word, date, part, other):
+                    if not uses_within(parts_list, allowances, part, other, date):
+                        return False
+    return True
+
+
+def small_events(parts_list, parts, last):
+    """All rows of two comings and two asks, the second ask behind all, with days up to a last one."""
+    units, words = [("come", part) for part in parts], [("ask", word) for word in parts_list.words()]
+    for days in combinations_with_replacement(range(last + 1), 4):
+        for one, other, first, second in product(units, units, words, words):
+            for row in [(one, other, first, second), (one, first, other, second), (first, one, other, second)]:
+                yield [(*event, day) for event, day in zip(row, days)]
+
+
+def shows_fault(parts_list, allowances, kind, orders, events):
+    """Whether the last event is refused though it could be served."""
+    told, _ = answers(parts_list, allowances, kind, orders, events)
+    served = [index for index, event in enumerate(events) if event[0] != "come" and told[index] is not None]
+    return told[-1] is None and could_serve(parts_list, allowances, events, served + [len(events) - 1])

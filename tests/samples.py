@@ -86,3 +86,43 @@ def some_orders(chance, words, parts):
 def without_shares(parts_list):
     """The list with the same places without shares."""
     return PartsList([(*row[:3], None) for row in parts_list.places()])
+
+
+def early_book(chance, parts, many, last=2):
+    """A book of at most so many allowances among the parts, all dates of which are at most the last one."""
+    rows = []
+    for _ in range(chance.randrange(many + 1)):
+        part, plain = chance.sample(parts, 2)
+        since = chance.randrange(last + 1)
+        row = (part, plain, since, chance.choice([None, None, chance.randrange(since, last + 1)]))
+        if row not in rows:
+            rows.append(row)
+    return Allowances(rows, through=chance.random() < 0.5)
+
+
+def plain_list(chance, parts, places, units=1):
+    """A list of at most so many places without shares, of at most so many units."""
+    return without_shares(some_list(chance, parts, places, units))
+
+
+def some_rule(chance, words, parts, kind=None):
+    """A tuple (kind, orders) for a rule; orders may lack parts and words, and have parts and words that are none."""
+    return kind or chance.choice(["row", "plain", "eldest"]), some_orders(chance, [*words, "none"], parts + "q")
+
+
+def put_off(allowances, days):
+    """The book with all dates so many days later."""
+    return Allowances([(part, plain, since + days, None if till is None else till + days)
+                       for part, plain, since, till in allowances.rows()], through=allowances.through)
+
+
+def renamed_book(allowances, names):
+    """The book with other names for the parts."""
+    return Allowances([(names[part], names[plain], since, till) for part, plain, since, till in allowances.rows()],
+                      through=allowances.through)
+
+
+def renamed_list(parts_list, names, words):
+    """The list with other names for the parts and other words for the places."""
+    return PartsList([(words[word], names[plain], number, share)
+                      for word, plain, number, share in parts_list.places()])

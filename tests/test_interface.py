@@ -26,7 +26,14 @@ FUNCTIONS = {
     "runs": {"is_event": "parts_list value", "played": "parts_list allowances rule events",
              "running": "parts_list allowances rule events"},
     "serving": {"could_serve": "parts_list allowances events served",
-                "first_wrong": "parts_list allowances rule events"}}
+                "first_wrong": "parts_list allowances rule events"},
+    "judging": {"uses_from": "parts_list allowances part date", "fault": "parts_list allowances rule",
+                "faulty_events": "parts_list allowances rule", "is_right": "parts_list allowances rule",
+                "right_rule": "parts_list allowances", "ring": "parts_list allowances"},
+    "growing": {"made_by": "parts_list allowances rule date stock"},
+    "safety": {"is_safe": "allowances part plain date wait", "safe_parts": "allowances plain date wait",
+               "safe_spans": "allowances part plain wait"},
+    "rulepapers": {"rule_paper": "parts_list allowances rule", "no_rule_paper": "parts_list allowances"}}
 CLASSES = {
     "allowances": {"Allowances": {"__init__": "rows through", "rows": "", "__call__": "plain date", "dates": "",
                                   "__len__": None, "__contains__": None, "__add__": None, "__or__": None,

@@ -133,7 +133,8 @@ class LanguageTest(unittest.TestCase):
 
     def test_builtins(self):
         for name, node in nodes():
-            if isinstance(node, ast.Name) and hasattr(builtins, node.id):
+            # A doctest may have left a value at the name _ there.
+            if isinstance(node, ast.Name) and node.id != "_" and hasattr(builtins, node.id):
                 self.assertIn(node.id, BUILTINS, name)
                 self.assertIsInstance(node.ctx, ast.Load, name)
             if isinstance(node, ast.arg):
