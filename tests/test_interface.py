@@ -33,7 +33,10 @@ FUNCTIONS = {
     "growing": {"made_by": "parts_list allowances rule date stock"},
     "safety": {"is_safe": "allowances part plain date wait", "safe_parts": "allowances plain date wait",
                "safe_spans": "allowances part plain wait"},
-    "rulepapers": {"rule_paper": "parts_list allowances rule", "no_rule_paper": "parts_list allowances"}}
+    "rulepapers": {"rule_paper": "parts_list allowances rule", "no_rule_paper": "parts_list allowances"},
+    "rulechecker": {"lets_rule": "parts_list allowances rule value", "lets_ring": "parts_list allowances value"},
+    "texts": {"write_list": "parts_list", "write_allowances": "allowances", "write_stock": "stock",
+              "write_dealing": "things", "read_list": "text", "read_allowances": "text", "read_stock": "text"}}
 CLASSES = {
     "allowances": {"Allowances": {"__init__": "rows through", "rows": "", "__call__": "plain date", "dates": "",
                                   "__len__": None, "__contains__": None, "__add__": None, "__or__": None,
@@ -53,7 +56,11 @@ CLASSES = {
     "rules": {"Rule": {"__init__": "kind orders", "order": "word", "words": "", "with_order": "word parts",
                        "rank": "word part", "__call__": "place one other", "__eq__": None}},
     "runs": {"Run": {"__init__": "parts_list allowances rule", "do": "event", "units": "", "__len__": None,
-                     "copy": ""}}}
+                     "copy": ""}},
+    "store": {"Store": {"__init__": "parts_list allowances stock", "held": "", "put": "value", "come": "part number",
+                        "allow": "row", "most": "date", "make": "date many", "undo": "", "__len__": None,
+                        "attempt": "deed", "trying": ""}},
+    "console": {"Console": {"__init__": "parts_list allowances", "say": "row"}}}
 
 
 def module_of(name):
@@ -92,6 +99,22 @@ class InterfaceTest(unittest.TestCase):
         self.assertIsInstance(vars(rule)["plainly"], staticmethod)
         self.assertEqual(len(inspect.signature(rule.plainly).parameters), 0)
         self.assertTrue(inspect.isgeneratorfunction(module_of("runs").running))
+        self.assertIsInstance(vars(module_of("store").Store)["made"], property)
+
+    def test_no_other_defaults(self):
+        allowed = {("allowances", "Allowances"), ("stocks", "Stock"), ("rules", "Rule")}
+        for name in sorted({*FUNCTIONS, *CLASSES}):
+            for made in [*FUNCTIONS.get(name, {}), *CLASSES.get(name, {})]:
+                if (name, made) not in allowed:
+                    for parameter in inspect.signature(getattr(module_of(name), made)).parameters.values():
+                        self.assertIs(parameter.default, inspect.Parameter.empty)
+                        self.assertEqual(parameter.kind, inspect.Parameter.POSITIONAL_OR_KEYWORD)
+
+    def test_all_modules(self):
+        told = {*FUNCTIONS, *CLASSES, "errors"}
+        self.assertEqual(told, set(
+            "errors words allowances lists stocks demand making eithers needs likeness given rules runs serving "
+            "judging growing safety rulepapers rulechecker texts store console".split()))
 
 
 if __name__ == "__main__":

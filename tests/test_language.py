@@ -188,6 +188,28 @@ class LanguageTest(unittest.TestCase):
                     self.assertIsInstance(changed, ast.Name, place)
                     self.assertTrue(all(is_created(value) for value in assigned.get(changed.id, [None])), place)
 
+    def test_what_stands_at_the_end_of_a_try_or_a_with_only_assigns(self):
+        found = 0
+        for name, node in nodes():
+            rows = node.finalbody if isinstance(node, ast.Try) else []
+            if isinstance(node, ast.FunctionDef) and node.name == "__exit__":
+                rows = node.body
+            for row in rows:
+                found += 1
+                self.assertIsInstance(row, ast.Assign, (name, row.lineno))
+                self.assertIsInstance(row.value, (ast.Name, ast.Attribute), (name, row.lineno))
+                for target in row.targets:
+                    self.assertIsInstance(target, (ast.Name, ast.Attribute), (name, row.lineno))
+        self.assertGreater(found, 0)
+
+    def test_errors_that_are_caught_are_own_ones(self):
+        own = {node.name for node in ast.parse(text_of("errors.py")).body if isinstance(node, ast.ClassDef)}
+        for name, node in nodes():
+            if isinstance(node, ast.ExceptHandler):
+                self.assertTrue(is_name(node.type, own), (name, node.lineno))
+            if isinstance(node, ast.Raise) and isinstance(node.exc, ast.Call):
+                self.assertTrue(is_name(node.exc.func, own | {"TypeError"}), (name, node.lineno))
+
     def test_lists_instead_of_generator_expressions(self):
         # Some classes have an __eq__.
         for name, node in nodes():
