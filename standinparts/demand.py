@@ -42,16 +42,19 @@ def needs_of(asked):
 
 def demands_on(parts, needs):
     """The demands on all sets of parts, each at its number: the sum of 1 << k for each parts[k] in it."""
-    demands = [0 for _ in range(1 << len(parts))]
+    alone = [0 for _ in range(1 << len(parts))]
     for needed, units in needs.items():
         if all([part in parts for part in needed]):
             number = sum([1 << at for at in range(len(parts)) if parts[at] in needed])
-            demands[number] = units
-    # What stood at a set alone is added to all sets around it, part by part.
-    for k in range(len(parts)):
-        for number in range(len(demands)):
-            if number >> k & 1:
-                demands[number] = demands[number] + demands[number - (1 << k)]
+            alone[number] = units
+    # What stands at a set alone is added to all sets around it, part by part. Each time the sets without the part are
+    # put ahead of those with it, so that the next part is the one that parts even numbers from odd ones; behind all
+    # parts each set is at its number again.
+    demands = list(alone)
+    for _ in parts:
+        without = demands[0::2]
+        added = [less + more for less, more in zip(without, demands[1::2])]
+        demands = [*without, *added]
     return demands
 
 

@@ -79,13 +79,19 @@ def check_number(many):
         raise BadNumber(many)
 
 
-def asked_sets(eithers, allowances, date):
-    """For all sets of candidates, in their order, (parts, demands): a demand for each choice's list."""
+def asked_places(eithers, allowances, date):
+    """What the places of each choice's list ask [asked_by], and all candidates, ascending."""
     lists = [eithers.list_of(choice) for choice in eithers.combinations()]
     asked = [asked_by(parts_list, allowances, date) for parts_list in lists]
     parts = candidates_of([place for places in asked for place in places])
     if len(parts) > MOST_PARTS:
         raise TooMany(MOST_PARTS)
+    return asked, parts
+
+
+def asked_sets(eithers, allowances, date):
+    """For all sets of candidates, in their order, (parts, demands): a demand for each choice's list."""
+    asked, parts = asked_places(eithers, allowances, date)
     tables = [demands_on(parts, needs_of(places)) for places in asked]
     return [(chosen, tuple([demands[number] for demands in tables])) for number, chosen in numbered_sets(parts)]
 
@@ -149,21 +155,35 @@ def numbers_for(eithers, allowances, date, stock, many):
     return first_row(rows_of(many, 1 << len(eithers)), held_sets(sets, stock))
 
 
-def limits_of(held):
-    """What the sets of held_sets allow: tuples (least, demand, first, last, units), the ones that allow least ahead.
+def totals_of(parts, stock):
+    """The units of all sets of parts, each at its number [demands_on]."""
+    totals = [0]
+    for part in parts:
+        count = stock[part]
+        totals = totals + [units + count for units in totals]
+    return totals
+
+
+def limits_of(asked, parts, stock):
+    """What sets of parts allow: tuples (least, demand, first, last, units), the ones that allow least ahead.
 
     demand is that of the first choice's list, first and last are what it grows by with the second option of the
     first of two either-ors and of the last one. Demands are sums over places, so that these tell the demands of all
     choices; and it does not matter in which things second options stand together, only in how many each stands.
     """
-    fewest = {demands: units for _, demands, units in held}
+    # The fourth choice takes both second options, so that its demands follow from the others.
+    tables = [demands_on(parts, needs_of(places)) for places in asked[:3]]
+    fewest = {}
+    for demands, units in zip(zip(*tables), totals_of(parts, stock)):
+        if demands not in fewest or units < fewest[demands]:
+            fewest[demands] = units
     limits = []
     for demands, units in fewest.items():
         demand = demands[0]
         first = demands[2] - demand if len(demands) > 2 else 0
         last = demands[1] - demand if len(demands) > 1 else 0
         # So many things can be made at the most, whatever is chosen, if the set is asked for at all.
-        least = units // max(1, min([int(asked) for asked in demands]))
+        least = units // max(1, demand + min(0, first) + min(0, last))
         limits.append((least, demand, first, last, units))
     return sorted(set(limits))
 
@@ -204,8 +224,9 @@ def most_looked_at(length):
 
 def most_of(eithers, allowances, date, stock):
     """How many things can be made at the most, but 200 for more."""
-    limits = limits_of(held_sets(asked_sets(eithers, allowances, date), stock))
-    length = 1 << len(eithers)
+    asked, parts = asked_places(eithers, allowances, date)
+    limits = limits_of(asked, parts, stock)
+    length = len(asked)
     greatest = most_looked_at(length)
     if can_make(greatest, length, limits):
         if greatest < MOST_MADE:

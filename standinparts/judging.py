@@ -88,8 +88,7 @@ def order_of(table, word):
     that must be ahead of it, all ascending.
     """
     left = table.ever_fits(word)
-    ahead = {part: [one for one in left if one != part and must_be_ahead(table, word, one, part) is not None]
-             for part in left}
+    ahead = {part: [one for one in left if must_be_ahead(table, word, one, part) is not None] for part in left}
     order = []
     while True:
         free = [part for part in left if not any([one in left for one in ahead[part]])]

@@ -358,6 +358,16 @@ class MostOfTest(unittest.TestCase):
             self.assertEqual([most_of(made, book, 0, stock) for stock in stocks], counted)
         self.assertLess(time.process_time() - begin, 1)
 
+    def test_ten_candidates_within_a_second(self):
+        letters = "abcdefghi"
+        base = PartsList([("p" + letter, letter, 1, None) for letter in letters])
+        made = Eithers(base, [("e", one("q", "z", 2), one("q", "z")), ("f", one("r", "z", 3), one("r", "a", 2))])
+        book = Allowances([("z", letter, 0, None) for letter in letters])
+        begin = time.process_time()
+        for units in list(range(0, 160, 8)) * 10:
+            most_of(made, book, 0, Stock({**{letter: 20 for letter in letters}, "z": units}))
+        self.assertLess(time.process_time() - begin, 2)
+
     def test_only_second_options_can_be_had(self):
         made = Eithers(one("x", "a"), [("e", one("y", "b"), one("y", "c")), ("f", one("z", "d"), one("z", "e", 2))])
         for units, told in [({"b": 9, "e": 40}, 9), ({"c": 9, "d": 40}, 9), ({"c": 9, "e": 17}, 8), ({"b": 9}, 0),

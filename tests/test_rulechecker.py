@@ -117,6 +117,13 @@ class ErrorsTest(unittest.TestCase):
             for way in parts_of(paper):
                 for value in all_odd_values() + [Agreeing(), Unwilling(), PARTS]:
                     self.assertIs(lets_rule(PARTS, BOOK, rule, put_at(paper, way, value)), False)
+        parts = PartsList([("x", "b", 1, None), ("y", "a", 2, None)])
+        paper = ("wrong", [("come", "a", 0), ("come", "a", 0), ("come", "b", 0), ("order", 0)],
+                 [(("x", ("b",)), ("y", ("a", "a")))])
+        self.assertIs(lets_rule(parts, BOOK, GREEDY, paper), True)
+        for way in parts_of(paper):
+            for value in all_odd_values() + [Agreeing(), Unwilling(), PARTS]:
+                self.assertIs(lets_rule(parts, BOOK, GREEDY, put_at(paper, way, value)), False)
         for way in parts_of(("ring", "x", STEPS)):
             for value in all_odd_values() + [Agreeing(), Unwilling(), PARTS]:
                 self.assertIs(lets_ring(RING_PARTS, RINGED, put_at(("ring", "x", STEPS), way, value)), False)

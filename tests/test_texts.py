@@ -50,7 +50,7 @@ def spoilt(chance, row):
         other.insert(at, chance.choice(["bolt", "7", "share", "for", "since", "till", "through", "", "share 1"]))
     elif way == 2:
         other[at] = chance.choice(["+" + words[at], "-" + words[at], "0" + words[at], words[at] + ";", ";",
-                                   words[at].upper(), words[at] + "\n", "\t" + words[at], "1.0", "1_0", "\u0663",
+                                   words[at].upper(), words[at] + "\n", "\t" + words[at], "", "1.0", "1_0", "\u0663",
                                    "\u00b2", "share", "for", "since", "till", "through", "None", "00", "-0"])
     elif way == 3:
         other[-1] = "1" + "0" * chance.choice([29, 30, 31, 32])
@@ -173,12 +173,14 @@ class BadTextsTest(unittest.TestCase):
     def test_forms(self):
         wrong = {read_list: ["x", "x b", "x b 1 share", "x b 1 shares 1", "x b 1 1", "x b 1 share 1 1", "x  b 1",
                              "x b  1", " x b 1", "x b 1 ", "x b +1", "x b -1", "x b 01", "x b 1.0", "x b one", "x b ",
-                             "x b 1 share 01", "x b 1 share -1", "x b 1 share None", "x b 1;y b 1", "x b 1,y b 1"],
+                             "x b 1 share 01", "x b 1 share -1", "x b 1 share None", "x b 1;y b 1", "x b 1,y b 1",
+                             " b 1", "x  1", " b 1 share 1", "x  1 share 1", "  1"],
                  read_allowances: ["a", "a b", "a for b", "a for b since", "a to b since 0", "a for b till 0",
                                    "a for b since 0 till", "a for b since 0 since 1", "a for b since 0 till 1 till 2",
                                    "a for b since 00", "a for b since 0 till 09", "a for b since 0 till None",
                                    "a for  b since 0", "for b since 0", "a since 0 for b", "through ", " through",
-                                   "Through", "a for b since 0;", "a for b since 0;c for b since 0"],
+                                   "Through", "a for b since 0;", "a for b since 0;c for b since 0", " for b since 0",
+                                   "a for  since 0", " for  since 0", " for b since 0 till 1", "a for  since 0 till 1"],
                  read_stock: ["a", "a  1", " a 1", "a 1 ", "a 1 1", "a +1", "a -1", "a 01", "a 00", "a one", "1",
                               "a 1;b 1", "a 1,", " ", "a ", " 1", "a 1\n", "a \u0661", "a \u00b9"]}
         for read, rows in wrong.items():
